@@ -1,0 +1,1 @@
+"""Tanks for cleaning: how many are enough, and which lot lies in which."""

@@ -1,0 +1,74 @@
+"""Lots and what can be reckoned from them alone, without the tanks, the hour or the need."""
+
+
+class Lot:
+    """A lot that lies from hour begins up to hour ends, that one not with it."""
+
+    def __init__(self, number, begins, ends, crates):
+        self.number = number
+        self.begins = begins
+        self.ends = ends
+        self.crates = crates
+
+
+def numbers_of(lots):
+    return [lot.number for lot in lots]
+
+
+def lies_in(lot, hour):
+    return lot.begins <= hour and hour < lot.ends
+
+
+def lying(lots, hour):
+    return [lot for lot in lots if lies_in(lot, hour)]
+
+
+def two_meet(one, other):
+    return one.begins < other.ends and other.begins < one.ends
+
+
+def most_at_once(lots):
+    # More lie than the hour before only where one begins, so no other hour can have the most.
+    return max([len(lying(lots, lot.begins)) for lot in lots], default=0)
+
+
+def may_lie(lots, hour, count, tanks):
+    # Here too: if there's room in the first hour, it can only be gone where another lot begins.
+    begins = [lot.begins for lot in lots if hour < lot.begins and lot.begins < hour + count]
+    for asked in [hour] + begins:
+        if len(lying(lots, asked)) >= tanks:
+            return False
+    return True
+
+
+def plan_order(lot):
+    return (lot.begins, lot.number)
+
+
+def end_order(lot):
+    return (lot.ends, lot.number)
+
+
+def least_free_tank(placed, lot):
+    taken = [tank for other, tank in placed if two_meet(other, lot)]
+    least = 0
+    while least in taken:
+        least += 1
+    return least
+
+
+def plan_of(lots):
+    """Pairs of a lot and its tank, in the plan's order."""
+    placed = []
+    for lot in sorted(lots, key=plan_order):
+        placed.append((lot, least_free_tank(placed, lot)))
+    return placed
+
+
+def taken_by(lots, tanks):
+    """The lots that so many tanks take, in the order in which they end."""
+    taken = []
+    for lot in sorted(lots, key=end_order):
+        if most_at_once(taken + [lot]) <= tanks:
+            taken.append(lot)
+    return taken
