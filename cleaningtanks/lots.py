@@ -27,6 +27,11 @@ def two_meet(one, other):
     return one.begins < other.ends and other.begins < one.ends
 
 
+def meeting(lots, lot):
+    """The others among these lots that the lot meets."""
+    return [other for other in lots if other.number != lot.number and two_meet(other, lot)]
+
+
 def most_at_once(lots):
     # More lie than the hour before only where one begins, so no other hour can have the most.
     return max([len(lying(lots, lot.begins)) for lot in lots], default=0)
@@ -39,6 +44,19 @@ def may_lie(lots, hour, count, tanks):
         if len(lying(lots, asked)) >= tanks:
             return False
     return True
+
+
+def first_hour(lots, hour, count, tanks):
+    """The first hour, from that one on, from which one more may lie for so many hours, with one tank or more."""
+    # Where an hour will do but the one ahead of it won't, that one is full, so a lot ends in between.
+    # From the last end on none lies, so there's always an hour that will do.
+    asked = [hour] + [lot.ends for lot in lots if lot.ends > hour]
+    return min([begins for begins in asked if may_lie(lots, begins, count, tanks)])
+
+
+def hours_left(lot, hour):
+    """For how many hours the lot lies from that hour on; one that begins later lies for all of its hours."""
+    return max(lot.ends - max(lot.begins, hour), 0)
 
 
 def plan_order(lot):

@@ -1,8 +1,12 @@
 """The calls on one object, read from a list of whole numbers, and their answers."""
 
 from cleaningtanks.lots import Lot
+from cleaningtanks.lots import first_hour
+from cleaningtanks.lots import hours_left
+from cleaningtanks.lots import lies_in
 from cleaningtanks.lots import lying
 from cleaningtanks.lots import may_lie
+from cleaningtanks.lots import meeting
 from cleaningtanks.lots import most_at_once
 from cleaningtanks.lots import numbers_of
 from cleaningtanks.lots import plan_of
@@ -69,6 +73,14 @@ def refusal_of_lots(house, told):
         if number not in house.lots:
             return NONE_SUCH
     return 0
+
+
+def lots_of(house, told):
+    return [house.lots[number] for number in told]
+
+
+def count_and_these(lots):
+    return [len(lots)] + sorted(numbers_of(lots))
 
 
 def answer_begin(house, told):
@@ -164,15 +176,14 @@ def answer_peak(house, told):
     refusal = refusal_of_lots(house, told[0])
     if refusal < 0:
         return [refusal]
-    return [most_at_once([house.lots[number] for number in told[0]])]
+    return [most_at_once(lots_of(house, told[0]))]
 
 
 def answer_at(house, told):
     hour = told[0]
     if not is_hour(hour):
         return [OUT_OF_RANGE]
-    there = numbers_of(lying(all_lots(house), hour))
-    return [len(there)] + there
+    return count_and_these(lying(all_lots(house), hour))
 
 
 def answer_plan(house, told):
@@ -194,8 +205,86 @@ def answer_most(house, told):
     tanks = told[0]
     if tanks > MOST_TANKS:
         return [OUT_OF_RANGE]
-    taken = sorted(numbers_of(taken_by(all_lots(house), tanks)))
-    return [len(taken)] + taken
+    return count_and_these(taken_by(all_lots(house), tanks))
+
+
+def answer_mostof(house, told):
+    tanks = told[0]
+    if tanks > MOST_TANKS:
+        return [OUT_OF_RANGE]
+    refusal = refusal_of_lots(house, told[1])
+    if refusal < 0:
+        return [refusal]
+    return count_and_these(taken_by(lots_of(house, told[1]), tanks))
+
+
+def answer_together(house, told):
+    refusal = refusal_of_lots(house, told[0])
+    if refusal < 0:
+        return [refusal]
+    # That two meet is to say that both lie in one hour.
+    return [1 if most_at_once(lots_of(house, told[0])) <= 1 else 0]
+
+
+def answer_meets(house, told):
+    number = told[0]
+    if number not in house.lots:
+        return [NONE_SUCH]
+    return count_and_these(meeting(all_lots(house), house.lots[number]))
+
+
+def answer_may(house, told):
+    hour = told[0]
+    count = told[1]
+    if not is_hour(hour) or not is_count_of_hours(count):
+        return [OUT_OF_RANGE]
+    return [1 if may_lie(all_lots(house), hour, count, house.tanks) else 0]
+
+
+def answer_first(house, told):
+    return answer_firstwith(house, [house.tanks] + told)
+
+
+def answer_firstwith(house, told):
+    tanks = told[0]
+    hour = told[1]
+    count = told[2]
+    if not within(tanks, 1, MOST_TANKS) or not is_hour(hour) or not is_count_of_hours(count):
+        return [OUT_OF_RANGE]
+    return [first_hour(all_lots(house), hour, count, tanks)]
+
+
+def answer_ready(house, told):
+    return count_and_these([lot for lot in all_lots(house) if has_ended(house, lot)])
+
+
+def answer_left(house, told):
+    number = told[0]
+    if number not in house.lots:
+        return [NONE_SUCH]
+    return [hours_left(house.lots[number], house.hour)]
+
+
+def answer_busy(house, told):
+    lots = all_lots(house)
+    return [sum([lot.ends - lot.begins for lot in lots]), max([lot.ends for lot in lots], default=0)]
+
+
+def answer_look(house, told):
+    number = told[0]
+    if number not in house.lots:
+        return [NONE_SUCH]
+    lot = house.lots[number]
+    return [lot.begins, lot.ends, lot.crates, 1 if lies_in(lot, house.hour) else 0]
+
+
+def answer_sums(house, told):
+    lots = all_lots(house)
+    return [0, len(lots), sum([lot.crates for lot in lots]), len(lying(lots, house.hour))]
+
+
+def answer_state(house, told):
+    return [0, house.hour, house.tanks, house.need, house.lots_ever]
 
 
 # By a call's number: what answers it, how many whole numbers it has, whether a row stands behind these.
@@ -212,6 +301,18 @@ CALLS = (
     (answer_plan, 0, False),
     (answer_tankof, 1, False),
     (answer_most, 1, False),
+    (answer_mostof, 1, True),
+    (answer_together, 0, True),
+    (answer_meets, 1, False),
+    (answer_may, 2, False),
+    (answer_first, 2, False),
+    (answer_firstwith, 3, False),
+    (answer_ready, 0, False),
+    (answer_left, 1, False),
+    (answer_busy, 0, False),
+    (answer_look, 1, False),
+    (answer_sums, 0, False),
+    (answer_state, 0, False),
 )
 
 

@@ -53,6 +53,54 @@ def most(k):
     return [11, k]
 
 
+def mostof(k, *lots):
+    return [12, k, len(lots), *lots]
+
+
+def together(*lots):
+    return [13, len(lots), *lots]
+
+
+def meets(l):
+    return [14, l]
+
+
+def may(h, n):
+    return [15, h, n]
+
+
+def first(h, n):
+    return [16, h, n]
+
+
+def firstwith(k, h, n):
+    return [17, k, h, n]
+
+
+def ready():
+    return [18]
+
+
+def left(l):
+    return [19, l]
+
+
+def busy():
+    return [20]
+
+
+def look(l):
+    return [21, l]
+
+
+def sums():
+    return [22]
+
+
+def state():
+    return [23]
+
+
 def taken_apart(given):
     apart = []
     place = 0
@@ -87,11 +135,19 @@ def go_to(hour):
 
 def probe(need):
     """Calls whose answers tell all that an object keeps: first looks, then acts."""
-    calls = [plan(), fewest()] + [most(k) for k in range(7)] + [at(h) for h in range(0, 30)]
+    calls = [state(), sums(), busy(), ready(), plan(), fewest()] + [look(l) for l in range(15)]
+    calls += [most(k) for k in range(7)] + [at(h) for h in range(0, 30)]
     calls += [hours(1), lot(10000, need - 1 or 501), lot(10000, need)]
     calls += [longer(l, 1) for l in range(15)] + [tank()] * 6
-    calls += [drop(l) for l in range(70)] + [lot(10000, need)]
+    calls += [drop(l) for l in range(70)] + [lot(10000, need), state(), sums()]
     return calls
+
+
+def every_call():
+    """Each call in turn, by its number, with arguments in their ranges."""
+    return [begin(2, 3), lot(0, 5), drop(0), longer(0, 5), tank(), hours(1), fewest(), peak(), at(0), plan(),
+            tankof(0), most(1), mostof(1), together(), meets(0), may(0, 5), first(0, 5), firstwith(1, 0, 5), ready(),
+            left(0), busy(), look(0), sums(), state()]
 
 
 def changes_nothing(setup, need, *calls):

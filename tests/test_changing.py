@@ -2,8 +2,9 @@
 
 import unittest
 
-from tests.helper import (FAR, ask, at, begin, changes_nothing, drop, fewest, go_to, hours, last, longer, lot,
-                          most, peak, plan, tank, tankof)
+from tests.helper import (FAR, ask, at, begin, busy, changes_nothing, drop, every_call, fewest, first, firstwith, go_to,
+                          hours, last, left, longer, look, lot, may, meets, most, mostof, peak, plan, ready, state,
+                          sums, tank, tankof, together)
 
 SETUP = [begin(2, 3), lot(0, 4, 7), lot(2, 6, 8), hours(2), lot(4, 9, 9), lot(20, 3, 10), drop(2)]
 
@@ -16,9 +17,13 @@ class Begin(unittest.TestCase):
             self.assertEqual(ask(begin(tanks, need)), [[-22]])
 
     def test_each_other_call_before_it(self):
-        others = [lot(0, 5), drop(0), longer(0, 5), tank(), hours(1), fewest(), peak(), peak(0, 0), at(0), plan(),
-                  tankof(0), most(0), lot(FAR, FAR, FAR), drop(FAR), longer(FAR, 0), hours(0), hours(FAR),
-                  peak(*range(40)), peak(65535), at(FAR), tankof(FAR), most(7), most(FAR)]
+        refused_else = [lot(FAR, FAR, FAR), drop(FAR), longer(FAR, 0), hours(0), hours(FAR), peak(0, 0),
+                        peak(*range(40)), peak(65535), at(FAR), tankof(FAR), most(7), most(FAR), mostof(7, 1, 1),
+                        mostof(FAR, *range(40)), mostof(1, 65535), together(1, 1), together(*range(40)),
+                        together(65535), meets(FAR), may(FAR, FAR), may(0, 0), first(FAR, FAR), first(0, 501),
+                        firstwith(0, 0, 1), firstwith(FAR, FAR, FAR), left(FAR), look(FAR)]
+        others = every_call()[1:] + refused_else
+        self.assertEqual([call[0] for call in others[:23]], list(range(1, 24)))
         self.assertEqual(ask(*others), [[-11]] * len(others))
         self.assertEqual(ask(begin(0, 1), *others), [[-22]] + [[-11]] * len(others))
         self.assertEqual(ask(begin(1, 501), *others), [[-22]] + [[-11]] * len(others))
@@ -35,6 +40,15 @@ class Begin(unittest.TestCase):
         self.assertEqual(got[len(SETUP):], [[0], [0], [0], [-2], [-2], [0], [-2], [-2], [0],
                                             [-12], [0], [-33], [2], [1, 0]])
 
+    def test_each_call_behind_a_second_one(self):
+        self.assertEqual(ask(*SETUP, *every_call())[len(SETUP):], ask(*every_call()))
+        for call in every_call()[1:]:
+            self.assertEqual(last(*SETUP, begin(4, 2), call), last(begin(4, 2), call))
+        got = ask(*SETUP, begin(1, 2), mostof(6, 0), mostof(1), together(1), together(), meets(0), may(2, 9),
+                  first(0, 9), firstwith(1, 0, 9), ready(), left(0), busy(), look(1), sums(), state())
+        self.assertEqual(got[len(SETUP):], [[0], [-2], [0], [-2], [1], [-2], [1], [0], [0], [0], [-2], [0, 0], [-2],
+                                            [0, 0, 0, 0], [0, 0, 1, 2, 0]])
+
     def test_a_second_one_has_60_lots_anew(self):
         some = [call for l in range(40) for call in (lot(0, 1), drop(l))]
         self.assertEqual(last(begin(1, 1), *some, begin(1, 1), *some, lot(0, 1)), [40])
@@ -43,6 +57,8 @@ class Begin(unittest.TestCase):
         for wrong in (begin(0, 3), begin(7, 3), begin(1, 0), begin(1, 501), begin(FAR, FAR)):
             self.assertEqual(last(*SETUP, wrong), [-22])
             self.assertTrue(changes_nothing(SETUP, 3, wrong))
+            for call in every_call()[1:]:
+                self.assertEqual(last(*SETUP, wrong, call), last(*SETUP, call))
 
 
 class LotCall(unittest.TestCase):

@@ -4,7 +4,17 @@ import itertools
 import random
 import unittest
 
-from tests.helper import FAR, ask, at, begin, drop, fewest, go_to, hours, longer, lot, most, peak, plan, tank, tankof
+from tests.helper import (FAR, ask, at, begin, busy, changes_nothing, drop, fewest, first, firstwith, go_to, hours,
+                          left, longer, look, lot, may, meets, most, mostof, peak, plan, ready, state, sums, tank,
+                          tankof, together)
+
+NAMES = ("begin", "lot", "drop", "longer", "tank", "hours", "fewest", "peak", "at", "plan", "tankof", "most", "mostof",
+         "together", "meets", "may", "first", "firstwith", "ready", "left", "busy", "look", "sums", "state")
+# The refusals of each call, besides -11; a call that isn't here has no other.
+REFUSALS = {"begin": (-22,), "lot": (-22, -16, -12, -28, -33), "drop": (-2,), "longer": (-2, -22, -17, -33),
+            "tank": (-28,), "hours": (-22, -75), "peak": (-22, -2), "at": (-22,), "tankof": (-2,), "most": (-22,),
+            "mostof": (-22, -2), "together": (-22, -2), "meets": (-2,), "may": (-22,), "first": (-22,),
+            "firstwith": (-22,), "left": (-2,), "look": (-2,)}
 
 
 class Model:
@@ -14,11 +24,14 @@ class Model:
         self.lots = None
 
     def answer(self, call):
-        names = ("begin", "lot", "drop", "longer", "tank", "hours", "fewest", "peak", "at", "plan", "tankof", "most")
-        name = names[call[0]]
+        name = NAMES[call[0]]
         if name != "begin" and self.lots is None:
             return [-11]
-        told = [call[2:]] if name == "peak" else call[1:]
+        told = call[1:]
+        if name in ("peak", "together"):
+            told = [call[2:]]
+        if name == "mostof":
+            told = [call[1], call[3:]]
         return getattr(self, name)(*told)
 
     def begin(self, tanks, need):
@@ -91,12 +104,15 @@ class Model:
     def fewest(self):
         return [self.peak_of(list(self.lots))]
 
-    def peak(self, told):
+    def refused(self, told):
         if len(told) > 12 or any(told.count(l) > 1 for l in told):
             return [-22]
         if any(l not in self.lots for l in told):
             return [-2]
-        return [self.peak_of(told)]
+        return []
+
+    def peak(self, told):
+        return self.refused(told) or [self.peak_of(told)]
 
     def at(self, h):
         if h > 10000:
@@ -117,19 +133,72 @@ class Model:
     def tankof(self, l):
         return [self.places()[l]] if l in self.lots else [-2]
 
-    def most(self, k):
-        if k > 6:
-            return [-22]
+    def taken(self, k, told):
         taken = []
-        for l in sorted(self.lots, key=lambda l: (max(self.lots[l]), l)):
+        for l in sorted(told, key=lambda l: (max(self.lots[l]), l)):
             if self.peak_of(taken + [l]) <= k:
                 taken.append(l)
         return [len(taken), *sorted(taken)]
 
+    def most(self, k):
+        return [-22] if k > 6 else self.taken(k, self.lots)
+
+    def mostof(self, k, told):
+        return [-22] if k > 6 else self.refused(told) or self.taken(k, told)
+
+    def together(self, told):
+        pairs = itertools.combinations(told, 2)
+        return self.refused(told) or [int(all(self.lots[one].isdisjoint(self.lots[other]) for one, other in pairs))]
+
+    def meets(self, l):
+        if l not in self.lots:
+            return [-2]
+        met = [other for other in range(60) if other != l and self.lots[l] & self.lots.get(other, set())]
+        return [len(met), *met]
+
+    def may(self, h, n):
+        if h > 10000 or n not in range(1, 501):
+            return [-22]
+        return [int(all(self.count(hour) < self.tanks for hour in range(h, h + n)))]
+
+    def first(self, h, n):
+        return self.firstwith(self.tanks, h, n)
+
+    def firstwith(self, k, h, n):
+        if h > 10000 or n not in range(1, 501) or k not in range(1, 7):
+            return [-22]
+        free = 0
+        while free < n:
+            free = free + 1 if self.count(h) < k else 0
+            h += 1
+        return [h - n]
+
+    def ready(self):
+        ended = [l for l in range(60) if l in self.lots and self.ended(l)]
+        return [len(ended), *ended]
+
+    def left(self, l):
+        return [len([hour for hour in self.lots[l] if hour >= self.now])] if l in self.lots else [-2]
+
+    def busy(self):
+        spans = self.lots.values()
+        return [sum(len(span) for span in spans), max([max(span) + 1 for span in spans], default=0)]
+
+    def look(self, l):
+        if l not in self.lots:
+            return [-2]
+        return [min(self.lots[l]), max(self.lots[l]) + 1, self.crates[l], int(self.now in self.lots[l])]
+
+    def sums(self):
+        return [0, len(self.lots), sum(self.crates[l] for l in self.lots), self.count(self.now)]
+
+    def state(self):
+        return [0, self.now, self.tanks, self.need, self.ever]
+
 
 def some_call(chance, early, widest):
     """A call that's mostly in range, among few hours, so that lots come to meet, end alike and follow at once."""
-    number = chance.randrange(14)
+    number = chance.randrange(28)
     l = chance.choice(list(range(14)) + [59, FAR])
     n = chance.choice(list(range(1, widest)) * 3 + [0, 500, 501, FAR])
     h = chance.choice(list(range(early, early + 3 * widest)) * 3 + [10000, 10001, FAR])
@@ -143,8 +212,9 @@ def some_call(chance, early, widest):
         n = chance.choice([1, 2])
     calls = (begin(chance.randrange(8), chance.choice([1, 1, 2, 3, 500, 501, 0])),
              lot(h, n, chance.choice([1, 7, 1000])), drop(l), longer(l, n), tank(), hours(n), fewest(),
-             peak(*row), at(h), plan(), tankof(l), most(k),
-             lot(h, n, chance.choice([0, 1, 2, 3, 1001, FAR])), lot(h, n, 5))
+             peak(*row), at(h), plan(), tankof(l), most(k), mostof(k, *row), together(*row), meets(l), may(h, n),
+             first(h, n), firstwith(k, h, n), ready(), left(l), busy(), look(l), sums(), state(),
+             lot(h, n, chance.choice([0, 1, 2, 3, 1001, FAR])), lot(h, n, 5), lot(h, n, 6), lot(h, n, 9))
     return calls[number]
 
 
@@ -195,13 +265,22 @@ class AgainstTheModel(unittest.TestCase):
             got = ask(*line)
             self.assertEqual(got, expected, line)
             for call, answer in zip(line, got):
-                seen[(call[0], min(answer[0], 0))] = True
-        refusals = {0: (-22,), 1: (-22, -16, -12, -28, -33), 2: (-2,), 3: (-2, -22, -17, -33), 4: (-28,), 5: (-22, -75),
-                    6: (), 7: (-22, -2), 8: (-22,), 9: (), 10: (-2,), 11: (-22,)}
+                seen[(NAMES[call[0]], min(answer[0], 0))] = True
         # The lines are worth something only if each call was answered and refused in every way.
-        for number, ways in refusals.items():
-            for way in ways + (0,) + ((-11,) if number else ()):
-                self.assertIn((number, way), seen)
+        expected = [(name, way) for name in NAMES for way in REFUSALS.get(name, ()) + (0, -11)]
+        expected.remove(("begin", -11))
+        self.assertEqual(sorted(seen), sorted(expected))
+
+    def test_what_is_refused_or_looks_changes_nothing(self):
+        chance = random.Random(5)
+        looks = NAMES[6:]
+        for each in range(150):
+            setup = [begin(chance.randrange(1, 7), 1)] + [some_call(chance, 0, 6) for each_call in range(25)]
+            setup = [call for call in setup if call[0] or call[2] in (0, 1, 501)]
+            tried = [some_call(chance, 0, 6) for each_call in range(25)]
+            answered = [ask(*setup, call)[-1][0] for call in tried]
+            tried = [call for call, answer in zip(tried, answered) if answer < 0 or NAMES[call[0]] in looks]
+            self.assertTrue(changes_nothing(setup, 1, *tried))
 
 
 class WhatHolds(unittest.TestCase):
@@ -255,6 +334,70 @@ class WhatHolds(unittest.TestCase):
                 calls.append(chance.choice([lot(h, n), lot(h, n), longer(l, n), drop(l)]))
                 calls.append(fewest())
             self.assertTrue(all(answer[0] <= tanks for answer in ask(*calls)[2::2]))
+
+    def test_told_it_may_it_is_not_refused(self):
+        chance = random.Random(6)
+        told = {0: 0, 1: 0}
+        for each in range(400):
+            need = chance.choice([1, 2, 3])
+            calls = [begin(chance.randrange(1, 4), need), hours(chance.randrange(1, 5))]
+            for each_call in range(11):
+                calls += [lot(chance.randrange(14), chance.randrange(1, 9)), longer(chance.randrange(12), 1)]
+            now = ask(*calls, state())[-1][1]
+            for each_call in range(10):
+                h, n = chance.randrange(now, 20), chance.randrange(need, 10)
+                answer, number = ask(*calls, may(h, n), lot(h, n))[-2:]
+                told[answer[0]] += 1
+                self.assertEqual(number[0] >= 0, answer == [1])
+                self.assertTrue(number[0] >= 0 or number == [-33])
+        self.assertTrue(min(told.values()) > 500)
+
+    def test_told_it_may_at_the_edges(self):
+        late = [begin(1, 500), *go_to(10000)]
+        eleven = [begin(1, 3)] + [lot(3 * l, 3) for l in range(11)]
+        ever = [begin(1, 3)] + [call for l in range(59) for call in (lot(0, 3), drop(l))]
+        for setup, h, n in ((late, 10000, 500), (eleven, 33, 3), (ever, 0, 3), ([begin(1, 3), lot(3, 3)], 0, 3),
+                            ([begin(1, 3), lot(3, 3), hours(6)], 6, 3), ([begin(1, 3), lot(3, 3)], 6, 3)):
+            answer, number = ask(*setup, may(h, n), lot(h, n))[-2:]
+            self.assertEqual(answer, [1])
+            self.assertGreaterEqual(number[0], 0)
+        for setup, h, n in ((late + [lot(10000, 500)], 10000, 500), (eleven, 32, 3), ([begin(1, 3), lot(3, 3)], 0, 4),
+                            ([begin(1, 3), lot(3, 3), hours(5)], 5, 3), ([begin(1, 3), lot(3, 3)], 1, 3)):
+            self.assertEqual(ask(*setup, may(h, n), lot(h, n))[-2:], [[0], [-33]])
+
+    def test_the_first_hour_is_not_refused_and_none_before_it_is_free(self):
+        chance = random.Random(7)
+        for each in range(200):
+            calls = some_lots(chance)
+            h, n = chance.randrange(18), chance.randrange(1, 9)
+            found = ask(*calls, first(h, n))[-1][0]
+            self.assertGreaterEqual(found, h)
+            self.assertEqual(ask(*calls, *[may(hour, n) for hour in range(h, found + 1)])[len(calls):],
+                             [[0]] * (found - h) + [[1]])
+            self.assertGreaterEqual(ask(*calls, lot(found, n))[-1][0], 0)
+
+    def test_with_a_tank_more_no_fewer_are_taken_and_nothing_is_free_later(self):
+        chance = random.Random(8)
+        for each in range(300):
+            calls = some_lots(chance)
+            there = [l for l in spans_told(calls) if chance.randrange(3)]
+            h, n = chance.randrange(18), chance.randrange(1, 9)
+            looks = [call for k in range(1, 7) for call in (most(k), mostof(k, *there), firstwith(k, h, n))]
+            got = [answer[0] for answer in ask(*calls, most(0), mostof(0, *there), *looks)[len(calls):]]
+            self.assertEqual(got[:2], [0, 0])
+            self.assertEqual(got[2::3], sorted(got[2::3]))
+            self.assertEqual(got[3::3], sorted(got[3::3]))
+            self.assertEqual(got[4::3], sorted(got[4::3], reverse=True))
+
+    def test_a_tank_more_there_is_as_one_more_asked(self):
+        chance = random.Random(9)
+        for each in range(100):
+            calls = some_lots(chance)
+            tanks = calls[0][1]
+            h, n = chance.randrange(18), chance.randrange(1, 9)
+            if tanks < 6:
+                asked, had = ask(*calls, firstwith(tanks + 1, h, n), tank(), first(h, n))[-3::2]
+                self.assertEqual(asked, had)
 
 
 if __name__ == "__main__":

@@ -1,9 +1,9 @@
-"""Points 2 and 3: fewest, peak, at, plan, tankof, most."""
+"""Point 2: fewest, peak, at, plan, tankof, meets, together."""
 
 import unittest
 
-from tests.helper import FAR, ask, at, begin, changes_nothing, drop, fewest, hours, last, longer, lot, most, peak
-from tests.helper import plan, tank, tankof
+from tests.helper import (FAR, ask, at, begin, changes_nothing, drop, fewest, hours, last, longer, lot, meets, peak,
+                          plan, tank, tankof, together)
 
 # Told out of their order: 0 lies 5 to 9, 1 lies 0 to 4, 2 lies 3 to 7, 3 lies 4 to 5.
 FOUR = [begin(3, 1), lot(5, 5), lot(0, 5), lot(3, 5), lot(4, 2)]
@@ -137,53 +137,111 @@ class Tankof(unittest.TestCase):
         self.assertEqual(last(begin(1, 1), tankof(0)), [-2])
 
 
-class Most(unittest.TestCase):
-    def test_each_count_of_tanks(self):
-        self.assertEqual(ask(*FOUR, *[most(k) for k in range(7)])[5:],
-                         [[0], [2, 0, 1], [3, 0, 1, 3], [4, 0, 1, 2, 3], [4, 0, 1, 2, 3], [4, 0, 1, 2, 3],
-                          [4, 0, 1, 2, 3]])
+class Meets(unittest.TestCase):
+    def test_how_many_others_and_these(self):
+        self.assertEqual(ask(*FOUR, *[meets(l) for l in range(4)])[5:], [[2, 2, 3], [2, 2, 3], [3, 0, 1, 3],
+                                                                         [3, 0, 1, 2]])
 
-    def test_out_of_range(self):
-        for k in (7, 8, 500, FAR):
-            self.assertEqual(last(*FOUR, most(k)), [-22])
+    def test_not_itself(self):
+        self.assertEqual(last(begin(1, 1), lot(3, 500), meets(0)), [0])
 
-    def test_no_lots(self):
-        self.assertEqual(ask(begin(1, 1), most(0), most(6), most(7))[1:], [[0], [0], [-22]])
-
-    def test_fewer_tanks_by_one(self):
-        for tanks in range(1, 7):
-            setup = [begin(tanks, 1)] + [lot(3, 9 - l) for l in range(tanks)]
-            self.assertEqual(last(*setup, most(tanks)), [tanks, *range(tanks)])
-            self.assertEqual(last(*setup, most(tanks - 1)), [tanks - 1, *range(1, tanks)])
-
-    def test_two_that_end_alike(self):
-        self.assertEqual(last(begin(2, 1), lot(0, 9), lot(6, 3), most(1)), [1, 0])
-        self.assertEqual(last(begin(2, 1), lot(6, 3), lot(0, 9), most(1)), [1, 0])
-        self.assertEqual(last(begin(3, 1), lot(0, 9), lot(6, 3), lot(5, 4), most(2)), [2, 0, 1])
-
-    def test_the_one_that_ends_first_is_taken(self):
-        self.assertEqual(last(begin(2, 1), lot(0, 9), lot(1, 7), most(1)), [1, 1])
-        self.assertEqual(last(begin(2, 1), lot(0, 9), lot(1, 2), lot(3, 6), most(1)), [2, 1, 2])
-
-    def test_one_that_meets_two_which_do_not_meet(self):
-        self.assertEqual(last(begin(2, 1), lot(0, 2), lot(3, 2), lot(0, 9), most(2)), [3, 0, 1, 2])
+    def test_no_such_lot_any_more(self):
+        for l in (4, 59, 60, 65535, FAR):
+            self.assertEqual(last(*FOUR, meets(l)), [-2])
+        self.assertEqual(last(begin(1, 1), meets(0)), [-2])
+        self.assertEqual(last(*FOUR, drop(2), meets(2)), [-2])
 
     def test_one_begins_when_another_ends(self):
-        self.assertEqual(last(begin(2, 1), lot(4, 4), lot(0, 4), lot(3, 2), most(1)), [2, 0, 1])
+        setup = [begin(2, 1), lot(0, 4), lot(4, 4), lot(8, 4)]
+        self.assertEqual(ask(*setup, meets(0), meets(1), meets(2))[4:], [[0], [0], [0]])
+        setup = [begin(2, 1), lot(0, 5), lot(4, 5), lot(8, 4)]
+        self.assertEqual(ask(*setup, meets(0), meets(1), meets(2))[4:], [[1, 1], [2, 0, 2], [1, 1]])
 
-    def test_more_tanks_than_there_are_may_be_asked(self):
-        self.assertEqual(last(begin(1, 1), lot(0, 4), most(6)), [1, 0])
+    def test_all_begin_in_one_hour(self):
+        setup = [begin(6, 1)] + [lot(7, 9 - l) for l in range(6)]
+        for l in range(6):
+            self.assertEqual(last(*setup, meets(l)), [5] + [other for other in range(6) if other != l])
+
+    def test_one_within_another(self):
+        self.assertEqual(ask(begin(2, 1), lot(0, 9), lot(3, 1), meets(0), meets(1))[3:], [[1, 1], [1, 0]])
+
+    def test_a_lot_longer_into_another(self):
+        setup = [begin(2, 1), lot(0, 4), lot(6, 4)]
+        self.assertEqual(ask(*setup, longer(0, 2), meets(0), meets(1), longer(0, 1), meets(0), meets(1))[3:],
+                         [[6], [0], [0], [7], [1, 1], [1, 0]])
+
+    def test_one_dropped_in_the_midst(self):
+        self.assertEqual(ask(*FOUR, drop(2), meets(0), meets(1), meets(3))[6:], [[1, 3], [1, 3], [2, 0, 1]])
 
     def test_those_that_have_ended_count(self):
-        self.assertEqual(last(begin(2, 1), lot(0, 4), lot(1, 4), hours(500), most(1)), [1, 0])
+        self.assertEqual(last(begin(2, 1), lot(0, 4), lot(3, 9), hours(5), meets(1)), [1, 0])
+        self.assertEqual(last(begin(2, 1), lot(0, 4), lot(3, 9), hours(500), meets(0)), [1, 1])
+
+
+class Together(unittest.TestCase):
+    def test_none_and_one_told(self):
+        self.assertEqual(ask(*FOUR, together(), together(0), together(3))[5:], [[1], [1], [1]])
+        self.assertEqual(last(begin(1, 1), together()), [1])
+
+    def test_whether_no_two_meet(self):
+        asked = [together(0, 1), together(1, 0), together(0, 2), together(2, 1), together(0, 1, 3),
+                 together(0, 1, 2, 3)]
+        self.assertEqual(ask(*FOUR, *asked)[5:], [[1], [1], [0], [0], [0], [0]])
+
+    def test_one_begins_when_another_ends(self):
+        self.assertEqual(last(begin(2, 1), lot(4, 4), lot(0, 4), lot(8, 1), together(0, 1, 2)), [1])
+        self.assertEqual(last(begin(2, 1), lot(4, 4), lot(0, 5), lot(8, 1), together(0, 1, 2)), [0])
+        self.assertEqual(last(begin(2, 1), lot(4, 5), lot(0, 4), lot(8, 1), together(0, 1, 2)), [0])
+
+    def test_all_begin_in_one_hour(self):
+        self.assertEqual(last(begin(6, 1), *[lot(7, 1 + l) for l in range(6)], together(0, 5)), [0])
+
+    def test_a_lot_longer_into_another(self):
+        setup = [begin(2, 1), lot(0, 4), lot(6, 4)]
+        self.assertEqual(ask(*setup, longer(0, 2), together(0, 1), longer(0, 1), together(1, 0))[3:],
+                         [[6], [1], [7], [0]])
+
+    def test_one_dropped_in_the_midst(self):
+        setup = [begin(2, 1), lot(0, 4), lot(2, 4), lot(4, 4)]
+        self.assertEqual(ask(*setup, together(0, 1, 2), drop(1), together(0, 2), together(0, 1, 2))[4:],
+                         [[0], [1, 0], [1], [-2]])
+
+    def test_those_that_have_ended_count(self):
+        self.assertEqual(last(begin(2, 1), lot(0, 4), lot(3, 4), hours(500), together(0, 1)), [0])
+
+    def test_twelve_are_told_and_more(self):
+        apart = [begin(1, 1)] + [lot(h, 1) for h in range(12)]
+        self.assertEqual(last(*apart, together(*range(12))), [1])
+        self.assertEqual(last(*TWELVE, together(*range(12))), [0])
+        self.assertEqual(last(*TWELVE, together(*range(0, 12, 2))), [1])
+        self.assertEqual(last(*apart, together(*range(13))), [-22])
+        self.assertEqual(last(*apart, together(*range(40))), [-22])
+        self.assertEqual(last(*apart, together(*range(100, 113))), [-22])
+        self.assertEqual(last(*apart, together(*[65535] * 40)), [-22])
+
+    def test_one_told_twice_or_not_there(self):
+        self.assertEqual(ask(*FOUR, together(0, 0), together(1, 0, 1))[5:], [[-22], [-22]])
+        for told in ((4,), (0, 1, 4), (65535, 0), (0, 65535)):
+            self.assertEqual(last(*FOUR, together(*told)), [-2])
+        self.assertEqual(last(*FOUR, drop(1), together(0, 1)), [-2])
+        self.assertEqual(last(begin(1, 1), together(0)), [-2])
+
+    def test_the_refusal_told_first(self):
+        for told in ((9, 9), (9, 0, 0), (0, 0, 9)):
+            self.assertEqual(last(*FOUR, together(*told)), [-22])
+
+    def test_what_stands_behind_the_row_is_read(self):
+        self.assertEqual(ask(*FOUR, together(), fewest(), together(*range(40)), fewest(), together(5, 6), at(0))[5:],
+                         [[1], [3], [-22], [3], [-2], [1, 1]])
 
 
 class LookingChangesNothing(unittest.TestCase):
     def test_answered_or_refused(self):
         looks = [fewest(), peak(), peak(0, 1), peak(1, 1), peak(0, 9), peak(*range(40)), at(3), at(10001), plan(),
-                 tankof(0), tankof(9), most(0), most(1), most(6), most(7)]
-        for look in looks:
-            self.assertTrue(changes_nothing(FOUR, 1, look))
+                 tankof(0), tankof(9), meets(0), meets(2), meets(9), together(), together(0, 1), together(1, 2),
+                 together(1, 1), together(0, 9), together(*range(40))]
+        for one in looks:
+            self.assertTrue(changes_nothing(FOUR, 1, one))
         self.assertTrue(changes_nothing(FOUR + [hours(4), drop(2)], 1, *looks))
 
 
